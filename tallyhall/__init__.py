@@ -1,0 +1,1 @@
+"""Tallyhall: dealings of several clerks at one tally."""
