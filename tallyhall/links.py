@@ -30,12 +30,18 @@ def links_between(one, other):
     return links
 
 
+def links_with(record, others):
+    """All links between the record and any of the others, either one of the two being the one."""
+    links = []
+    for other in others:
+        links.extend(links_between(record, other))
+        links.extend(links_between(other, record))
+    return links
+
+
 def links_of(records):
     """All links between any two of the records, in the order of Python's tuples."""
     links = []
-    for one in records:
-        for other in records:
-            # A dealing may look at what it puts itself; that is no link.
-            if one[NUMBER] != other[NUMBER]:
-                links.extend(links_between(one, other))
+    for place, record in enumerate(records):
+        links.extend(links_with(record, records[:place]))
     return sorted(links)

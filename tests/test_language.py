@@ -48,6 +48,11 @@ def each_node():
             yield node, f"{path.name}, line {getattr(node, 'lineno', '?')}"
 
 
+def imports_of(tree):
+    """The modules that a file draws from, with the names that it draws."""
+    return {node.module: [alias.name for alias in node.names] for node in tree.body if isinstance(node, ast.ImportFrom)}
+
+
 def bound_names(tree):
     names = set()
     for node in ast.walk(tree):
@@ -61,6 +66,16 @@ def bound_names(tree):
             names.add(node.asname or node.name)
         elif isinstance(node, ast.ExceptHandler) and node.name:
             names.add(node.name)
+    return names
+
+
+def bound_at_the_top(tree):
+    names = set()
+    for node in tree.body:
+        if isinstance(node, (ast.FunctionDef, ast.ClassDef)):
+            names.add(node.name)
+        elif isinstance(node, ast.Assign):
+            names.add(node.targets[0].id)
     return names
 
 
@@ -125,11 +140,45 @@ class Language(unittest.TestCase):
                 self.assertIn(node.func.attr, METHODS | own, where)
 
     def test_imports(self):
-        modules = {"tallyhall." + path.stem for path in package_files()}
+        files = {"tallyhall." + path.stem: tree for path, tree in zip(package_files(), trees())}
         for node, where in each_node():
             if isinstance(node, ast.ImportFrom):
                 self.assertEqual(node.level, 0, where)
-                self.assertIn(node.module, modules, where)
+                self.assertIn(node.module, files, where)
+        for module, tree in files.items():
+            for drawn_from, names in imports_of(tree).items():
+                self.assertEqual(set(names) - bound_at_the_top(files[drawn_from]), set(), module)
+
+    def test_no_two_files_draw_from_one_another(self):
+        files = {"tallyhall." + path.stem: imports_of(tree) for path, tree in zip(package_files(), trees())}
+        done = []
+        while len(done) < len(files):
+            ready = [module for module in files if module not in done and set(files[module]) <= set(done)]
+            self.assertNotEqual(ready, [], sorted(set(files) - set(done)))
+            done.extend(ready)
+
+    def test_no_local_is_called_like_an_import_or_a_class_of_its_file(self):
+        for tree in trees():
+            reserved = {name for names in imports_of(tree).values() for name in names}
+            reserved |= {node.name for node in tree.body if isinstance(node, ast.ClassDef)}
+            nodes = list(ast.walk(tree))
+            stored = {node.id for node in nodes if isinstance(node, ast.Name) and isinstance(node.ctx, ast.Store)}
+            stored |= {node.arg for node in nodes if isinstance(node, ast.arg)}
+            self.assertEqual(stored & reserved, set())
+
+    def test_classes(self):
+        methods, values = set(), set()
+        for node, where in each_node():
+            if isinstance(node, ast.ClassDef):
+                self.assertLessEqual(len(node.bases), 1, where)
+                for child in node.body:
+                    self.assertIsInstance(child, ast.FunctionDef, where)
+                    methods.add(child.name)
+            if isinstance(node, ast.Attribute) and isinstance(node.ctx, ast.Store):
+                values.add(node.attr)
+        self.assertEqual(methods & values, set())
+        of_python = {name for kind in (str, int, list, tuple, dict, set, bytes) for name in dir(kind)}
+        self.assertEqual((methods | values) & of_python - set(DUNDER_METHODS), set())
 
 
 if __name__ == "__main__":

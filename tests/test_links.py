@@ -4,23 +4,8 @@ import copy
 import itertools
 import unittest
 
+from by_the_words import links_by_point_8
 from tallyhall.links import links_of
-
-
-def links_by_point_8(records):
-    """Point 8 word by word, for comparison."""
-    links = []
-    for one, other in itertools.permutations(records, 2):
-        number, began, ended, looked, put = one
-        other_number, other_began, other_ended, other_looked, other_put = other
-        for good in sorted(set(looked + put + other_looked + other_put)):
-            if good in put and good in other_put and ended < other_ended:
-                links.append((number, other_number, good, "over"))
-            if good in put and good in other_looked and ended <= other_began:
-                links.append((number, other_number, good, "saw"))
-            if good in looked and good in other_put and other_ended > began:
-                links.append((number, other_number, good, "missed"))
-    return sorted(links)
 
 
 class FewRecords(unittest.TestCase):

@@ -4,6 +4,7 @@ import copy
 import itertools
 import unittest
 
+from by_the_words import amount_by_point_2, left_by_point_3
 from tallyhall.versions import swept, value_at
 
 GREAT = 10 ** 100 - 1
@@ -15,20 +16,6 @@ def small_histories():
     for size in range(7):
         for moments in itertools.combinations(range(6), size):
             yield [(moment, 10 + moment) for moment in moments]
-
-
-def amount_by_point_2(versions, moment):
-    amounts = [amount for since, amount in versions if since <= moment]
-    return amounts[-1] if amounts else 0
-
-
-def left_by_point_3(versions, moment):
-    left = []
-    for place, version in enumerate(versions):
-        behind = versions[place + 1:]
-        if not any(since <= moment for since, _ in behind):
-            left.append(version)
-    return left
 
 
 class ValueAt(unittest.TestCase):
